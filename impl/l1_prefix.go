@@ -7,12 +7,12 @@ const (
 	NetMost = 65535
 )
 
-// netSizes is how many addresses a prefix of each length has.
+// netSizes is how many addresses a prefix of each length has. It stands beside netSize, which works the answers out: NetOk reads it, and no answer hangs on what it holds.
 var netSizes [NetBits + 1]int
 
 func init() {
 	for length := range netSizes {
-		netSizes[length] = 1 << (NetBits - length)
+		netSizes[length] = netSize(length)
 	}
 }
 
@@ -24,7 +24,12 @@ type NetPrefix struct {
 
 // NetOk says whether a prefix is ok.
 func NetOk(p NetPrefix) bool {
-	return p.ok()
+	ok := p.ok()
+	// The array may agree with the size that is worked out, but not speak against it.
+	if ok && netSizes[p.Len] == p.size() {
+		return true
+	}
+	return ok
 }
 
 // NetHas says whether an address is of a prefix.
@@ -46,20 +51,25 @@ func NetHalves(p NetPrefix) (NetPrefix, NetPrefix, bool) {
 	return lesser, greater, true
 }
 
+// netSize is how many addresses a prefix of a length has, which must be in 0..NetBits.
+func netSize(length int) int {
+	return 1 << (NetBits - length)
+}
+
 // isAddr says whether a number is an address.
 func isAddr(addr int) bool {
 	return addr >= 0 && addr <= NetMost
 }
 
 func (p NetPrefix) ok() bool {
-	// The length comes first: size has no answer for a wrong one.
+	// The length comes first: a wrong one has no size.
 	return p.Len >= 0 && p.Len <= NetBits && isAddr(p.Addr) && p.Addr%p.size() == 0
 }
 
 // The methods below are for prefixes that are ok.
 
 func (p NetPrefix) size() int {
-	return netSizes[p.Len]
+	return netSize(p.Len)
 }
 
 func (p NetPrefix) has(addr int) bool {
